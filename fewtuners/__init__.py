@@ -1,0 +1,1 @@
+"""Fewtuners: a recorder with few receivers."""
