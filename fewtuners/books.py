@@ -1,6 +1,6 @@
 """Rules that tell which episodes are wished for, and books of them."""
 
-from fewtuners.checks import GREATEST_EPISODE, first_wrong, is_number, is_word
+from fewtuners.checks import GREATEST_EPISODE, is_number, is_word
 from fewtuners.errors import InvalidBook, InvalidRule
 
 MOST_RULES = 6
@@ -8,18 +8,29 @@ GREATEST_PRIORITY = 9
 MOST_PADDING = 60
 
 
+def wrong_part(show, first, last, priority, before, after):
+    """Return the name of the first part of a rule that is out of range, or None."""
+    # One after another, as what stands behind a wrong part may be of any kind.
+    if not is_word(show):
+        return "show"
+    if not is_number(first, 1, GREATEST_EPISODE):
+        return "first"
+    if not is_number(last, first, GREATEST_EPISODE):
+        return "last"
+    if not is_number(priority, 1, GREATEST_PRIORITY):
+        return "priority"
+    if not is_number(before, 0, MOST_PADDING):
+        return "before"
+    if not is_number(after, 0, MOST_PADDING):
+        return "after"
+    return None
+
+
 class Rule:
     """A wish for some episodes of a show, with a priority and minutes of padding."""
 
     def __init__(self, show, first, last, priority, before=0, after=0):
-        part = first_wrong([
-            ("show", is_word(show)),
-            ("first", is_number(first, 1, GREATEST_EPISODE)),
-            ("last", is_number(last, first, GREATEST_EPISODE)),
-            ("priority", is_number(priority, 1, GREATEST_PRIORITY)),
-            ("before", is_number(before, 0, MOST_PADDING)),
-            ("after", is_number(after, 0, MOST_PADDING)),
-        ])
+        part = wrong_part(show, first, last, priority, before, after)
         if part is not None:
             raise InvalidRule(part)
         self._show = show

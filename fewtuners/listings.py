@@ -1,6 +1,6 @@
 """Sendings and listings of them."""
 
-from fewtuners.checks import GREATEST_EPISODE, first_wrong, is_number, is_word
+from fewtuners.checks import GREATEST_EPISODE, is_number, is_word
 from fewtuners.errors import InvalidListing, InvalidSending, UnknownName
 
 MOST_SENDINGS = 10
@@ -9,18 +9,29 @@ LATEST_END = 10 ** 6 + 600
 MOST_LATE = 60
 
 
+def wrong_part(channel, show, episode, begin, end, late):
+    """Return the name of the first part of a sending that is out of range, or None."""
+    # One after another, as what stands behind a wrong part may be of any kind.
+    if not is_word(channel):
+        return "channel"
+    if not is_word(show):
+        return "show"
+    if not is_number(episode, 1, GREATEST_EPISODE):
+        return "episode"
+    if not is_number(begin, 0, LATEST_BEGIN):
+        return "begin"
+    if not is_number(end, begin + 1, LATEST_END):
+        return "end"
+    if not is_number(late, 0, MOST_LATE):
+        return "late"
+    return None
+
+
 class Sending:
     """An episode of a show, sent on a channel from one minute to another one."""
 
     def __init__(self, channel, show, episode, begin, end, late=0):
-        part = first_wrong([
-            ("channel", is_word(channel)),
-            ("show", is_word(show)),
-            ("episode", is_number(episode, 1, GREATEST_EPISODE)),
-            ("begin", is_number(begin, 0, LATEST_BEGIN)),
-            ("end", is_number(end, begin + 1, LATEST_END)),
-            ("late", is_number(late, 0, MOST_LATE)),
-        ])
+        part = wrong_part(channel, show, episode, begin, end, late)
         if part is not None:
             raise InvalidSending(part)
         self._channel = channel
@@ -70,10 +81,13 @@ class Listing:
     """What is sent: up to ten sendings, each with a name."""
 
     def __init__(self, sendings):
-        names = sorted(sendings)
-        wrong = [name for name in names if not is_word(name)] + names[MOST_SENDINGS:]
+        # Apart from the words, as what is no word may be of a kind that cannot be put in order with them.
+        wrong = sorted([name for name in sendings if not is_word(name)])
         if wrong:
             raise InvalidListing(wrong[0])
+        names = sorted(sendings)
+        if len(names) > MOST_SENDINGS:
+            raise InvalidListing(names[MOST_SENDINGS])
         self._sendings = {name: sendings[name] for name in names}
 
     @property

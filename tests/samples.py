@@ -3,6 +3,9 @@
 from fewtuners.books import Book, Rule
 from fewtuners.listings import Listing, Sending
 
+# Values that are neither words nor integers, of kinds that cannot be compared with texts or integers.
+ODD_VALUES = (None, True, False, 1.0, b"news", ["a"], ("a", "b"), {"a": 1}, object())
+
 
 def sending(**parts):
     """Return a sending with some parts as told, and all others in range."""

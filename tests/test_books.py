@@ -4,7 +4,7 @@ import unittest
 
 from fewtuners.books import Book, Rule
 from fewtuners.errors import InvalidBook, InvalidRule
-from tests.samples import rule
+from tests.samples import ODD_VALUES, rule
 
 
 class RuleTest(unittest.TestCase):
@@ -84,6 +84,25 @@ class RuleTest(unittest.TestCase):
         for part in ("first", "last", "priority", "before", "after"):
             with self.subTest(part):
                 self.assert_part(part, **{part: True})
+
+    def test_a_part_of_any_kind_is_named_whatever_stands_behind_it(self):
+        parts = ("show", "first", "last", "priority", "before", "after")
+        for at, part in enumerate(parts):
+            wrong = 3 if part == "show" else "news"
+            for value in (wrong, *ODD_VALUES):
+                with self.subTest(part=part, value=value):
+                    self.assert_part(part, **{part: value})
+                    for behind in (*ODD_VALUES, 3, "news", -1):
+                        self.assert_part(part, **{part: value}, **{other: behind for other in parts[at + 1:]})
+
+    def test_a_number_out_of_range_is_named_whatever_stands_behind_it(self):
+        for behind in (*ODD_VALUES, "news"):
+            with self.subTest(behind):
+                self.assert_part("show", show="ninelette", first=behind, last=behind, priority=behind, before=behind)
+                self.assert_part("first", first=0, last=behind, priority=behind, before=behind, after=behind)
+                self.assert_part("last", first=5, last=4, priority=behind, before=behind, after=behind)
+                self.assert_part("priority", priority=10, before=behind, after=behind)
+                self.assert_part("before", before=61, after=behind)
 
     def test_equal(self):
         self.assertTrue(rule() == rule(before=0, after=0))

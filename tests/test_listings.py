@@ -4,7 +4,7 @@ import unittest
 
 from fewtuners.errors import InvalidListing, InvalidSending, UnknownName
 from fewtuners.listings import Listing, Sending
-from tests.samples import document_listing, letters, sending
+from tests.samples import ODD_VALUES, document_listing, letters, sending
 
 GOOD_WORDS = ("a", "z", "az", "abcdefgh", "zzzzzzzz")
 BAD_WORDS = ("", "abcdefghi", "News", "newS", "new1", "1", "a b", " a", "a ", "a-b", "a\n", "\u00e9", "\u00df", "`", "{")
@@ -91,6 +91,25 @@ class SendingTest(unittest.TestCase):
         self.assert_part("episode", episode="1")
         self.assert_part("late", late=None)
 
+    def test_a_part_of_any_kind_is_named_whatever_stands_behind_it(self):
+        parts = ("channel", "show", "episode", "begin", "end", "late")
+        for at, part in enumerate(parts):
+            wrong = 3 if part in ("channel", "show") else "news"
+            for value in (wrong, *ODD_VALUES):
+                with self.subTest(part=part, value=value):
+                    self.assert_part(part, **{part: value})
+                    for behind in (*ODD_VALUES, 3, "news", -1):
+                        self.assert_part(part, **{part: value}, **{other: behind for other in parts[at + 1:]})
+
+    def test_a_number_out_of_range_is_named_whatever_stands_behind_it(self):
+        for behind in (*ODD_VALUES, "news"):
+            with self.subTest(behind):
+                self.assert_part("channel", channel="ninelette", show=behind, episode=behind, begin=behind, end=behind)
+                self.assert_part("show", show="", episode=behind, begin=behind, end=behind, late=behind)
+                self.assert_part("episode", episode=0, begin=behind, end=behind, late=behind)
+                self.assert_part("begin", begin=-1, end=behind, late=behind)
+                self.assert_part("end", end=0, late=behind)
+
     def test_equal(self):
         self.assertTrue(sending() == sending())
         self.assertFalse(sending() != sending())
@@ -136,6 +155,13 @@ class ListingTest(unittest.TestCase):
                 self.assert_name(word, Listing, {"b": sending(), word: sending()})
         self.assert_name("B", Listing, {"b": sending(), "c1": sending(), "a": sending(), "B": sending()})
         self.assert_name("c1", Listing, {"d": sending(), "c2": sending(), "c1": sending(), "a": sending()})
+
+    def test_a_name_that_is_no_text_is_named(self):
+        for name in (3, None, True, b"a", ("a",)):
+            with self.subTest(name):
+                self.assert_name(name, Listing, {"b": sending(), name: sending(), "a": sending()})
+                self.assert_name(name, Listing, {**letters(12), name: sending()})
+                self.assert_name(name, document_listing().with_sending, name, sending())
 
     def test_no_word_goes_ahead_of_too_many(self):
         self.assert_name("z1", Listing, {**letters(12), "z1": sending()})
