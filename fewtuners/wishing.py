@@ -52,6 +52,11 @@ def window(book, listing, name):
     return (max(0, sending.begin - rule.before), sending.end + rule.after)
 
 
+def wished_windows(book, listing):
+    """Return a dict from the ascending names of all sendings that are wished for to their windows."""
+    return {name: window(book, listing, name) for name in wished_names(book, listing)}
+
+
 def windows_overlap(one, other):
     """Return whether each of two windows begins ahead of the other one's end."""
     return one[0] < other[1] and other[0] < one[1]
@@ -60,5 +65,5 @@ def windows_overlap(one, other):
 def overlaps(book, listing, name):
     """Return the ascending list of all other wished sendings whose windows overlap this one's."""
     own = window(book, listing, name)
-    others = [other for other in wished_names(book, listing) if other != name]
-    return [other for other in others if windows_overlap(own, window(book, listing, other))]
+    windows = wished_windows(book, listing)
+    return [other for other in windows if other != name and windows_overlap(own, windows[other])]

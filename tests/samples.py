@@ -1,10 +1,15 @@
 """Sendings, rules and listings that several tests use."""
 
+import random
+
 from fewtuners.books import Book, Rule
 from fewtuners.listings import Listing, Sending
 
 # Values that are neither words nor integers, of kinds that cannot be compared with texts or integers.
 ODD_VALUES = (None, True, False, 1.0, b"news", ["a"], ("a", "b"), {"a": 1}, object())
+
+# Numbers of receivers that no recorder has.
+WRONG_RECEIVERS = (0, -1, 11, 1000, True, False)
 
 
 def sending(**parts):
@@ -37,3 +42,32 @@ def document_listing():
 
 def document_book():
     return Book((Rule("news", 1, 9, 5, 0, 2), Rule("quiz", 1, 1, 3)))
+
+
+def random_listing(chance, most=10):
+    """Return a listing in which many sendings overlap, by a random.Random."""
+    sendings = {}
+    for name in chance.sample(["a", "aa", "ab", "b", "ba", "c", "d", "e", "f", "g", "h", "z"], chance.randint(0, most)):
+        begin = chance.randint(0, 40)
+        end = begin + chance.choice((1, 5, 10, 10, 20))
+        show = chance.choice(("news", "quiz", "film"))
+        sendings[name] = Sending("one", show, chance.randint(1, 3), begin, end, chance.choice((0, 1, 5, 60)))
+    return Listing(sendings)
+
+
+def random_book(chance):
+    """Return a book with few priorities and some padding, by a random.Random."""
+    rules = []
+    for _ in range(chance.randint(0, 6)):
+        first = chance.randint(1, 3)
+        padding = [chance.choice((0, 0, 1, 5, 60)) for _ in range(2)]
+        show = chance.choice(("news", "quiz", "film"))
+        rules.append(Rule(show, first, chance.randint(first, 3), chance.randint(1, 3), *padding))
+    seen = [(chance.choice(("news", "quiz")), chance.randint(1, 3)) for _ in range(chance.choice((0, 0, 1, 2)))]
+    return Book(tuple(rules), tuple(seen))
+
+
+def random_cases(many, most=10):
+    """Return so many tuples (book, listing, receivers), the same ones for each call."""
+    chance = random.Random(many)
+    return [(random_book(chance), random_listing(chance, most), chance.randint(1, 4)) for _ in range(many)]

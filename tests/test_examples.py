@@ -2,8 +2,12 @@
 
 import unittest
 
-from fewtuners.errors import InvalidSending
+from fewtuners.choices import best_choice, busiest, fewest_best, fewest_own, seated
+from fewtuners.delays import least_more, surely_whole, whole
+from fewtuners.disks import least_disk, on_disk, round_of, rounds
+from fewtuners.errors import InvalidDelay, InvalidSending
 from fewtuners.listings import Sending
+from fewtuners.plans import in_the_way, is_plan, lost, own_plan
 from fewtuners.wishing import overlaps, sendings_of, window, wishes
 from tests.samples import document_book, document_listing
 
@@ -27,6 +31,45 @@ class ExamplesTest(unittest.TestCase):
         self.assertEqual(
             told + [window(book, listing, "ant"), overlaps(book, listing, "ant")],
             [[("news", 1), ("quiz", 1)], ["ant", "cat"], (0, 32), ["bee"]],
+        )
+
+    def test_plans(self):
+        book, listing = document_book(), document_listing()
+        told = [own_plan(book, listing, 1), own_plan(book, listing, 2)]
+        told.append(is_plan(book, listing, 1, {"cat": 0, "bee": 0}))
+        self.assertEqual(
+            told + [lost(book, listing, 1), in_the_way(book, listing, 1, ("quiz", 1))],
+            [{"ant": 0}, {"ant": 0, "bee": 1}, True, [("quiz", 1)], {"bee": [["ant"]]}],
+        )
+
+    def test_choices(self):
+        book, listing = document_book(), document_listing()
+        told = [best_choice(book, listing, 1), seated(book, listing, ("ant", "bee"))]
+        self.assertEqual(
+            told + [fewest_own(book, listing), fewest_best(book, listing), busiest(book, listing, ("ant", "bee"))],
+            [(8, ("bee", "cat")), {"ant": 0, "bee": 1}, 2, 1, (25, ("ant", "bee"))],
+        )
+
+    def test_delays(self):
+        book, listing = document_book(), document_listing()
+        told = [whole(book, listing, {"ant": 0}, {"ant": 2}), whole(book, listing, {"ant": 0}, {"ant": 3})]
+        self.assertEqual(
+            told + [surely_whole(book, listing, {"ant": 0, "cat": 0}), least_more(book, listing, 2)],
+            [["ant"], [], ["cat"], 1],
+        )
+
+    def test_a_delay_that_cannot_be(self):
+        with self.assertRaises(InvalidDelay) as caught:
+            whole(document_book(), document_listing(), {"ant": 0}, {"bee": 2})
+        self.assertEqual(vars(caught.exception), {"name": "bee"})
+
+    def test_disks(self):
+        book, listing = document_book(), document_listing()
+        told = [on_disk(book, listing, 2, 40, ("ant",)), on_disk(book, listing, 2, 40, ())]
+        told.append(least_disk(book, listing, 2, ("ant",)))
+        self.assertEqual(
+            told + [rounds(book, listing, 1), round_of(book, listing, 1, ("quiz", 1))],
+            [(["ant"], [], ["bee"]), (["bee"], ["ant"], []), 57, [{"ant": 0}, {"bee": 0}], 1],
         )
 
 

@@ -15,6 +15,30 @@ FUNCTIONS = {
         "window": "(book, listing, name)",
         "overlaps": "(book, listing, name)",
     },
+    "fewtuners.plans": {
+        "own_plan": "(book, listing, receivers)",
+        "is_plan": "(book, listing, receivers, plan)",
+        "lost": "(book, listing, receivers)",
+        "in_the_way": "(book, listing, receivers, episode)",
+    },
+    "fewtuners.choices": {
+        "best_choice": "(book, listing, receivers)",
+        "seated": "(book, listing, names)",
+        "fewest_own": "(book, listing)",
+        "fewest_best": "(book, listing)",
+        "busiest": "(book, listing, names)",
+    },
+    "fewtuners.delays": {
+        "whole": "(book, listing, plan, delays)",
+        "surely_whole": "(book, listing, plan)",
+        "least_more": "(book, listing, receivers)",
+    },
+    "fewtuners.disks": {
+        "on_disk": "(book, listing, receivers, minutes, protected)",
+        "least_disk": "(book, listing, receivers, protected)",
+        "rounds": "(book, listing, receivers)",
+        "round_of": "(book, listing, receivers, episode)",
+    },
 }
 
 CLASSES = {
