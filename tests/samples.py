@@ -44,6 +44,14 @@ def document_book():
     return Book((Rule("news", 1, 9, 5, 0, 2), Rule("quiz", 1, 1, 3)))
 
 
+def news_listing():
+    return Listing({
+        "a": Sending("one", "news", 1, 10, 20, 5),
+        "b": Sending("one", "quiz", 1, 15, 30, 3),
+        "c": Sending("two", "news", 1, 40, 50),
+    })
+
+
 def random_listing(chance, most=10):
     """Return a listing in which many sendings overlap, by a random.Random."""
     sendings = {}

@@ -2,14 +2,19 @@
 
 import unittest
 
+from fewtuners.books import Book, Rule
+from fewtuners.changing import changes, shifted
 from fewtuners.choices import best_choice, busiest, fewest_best, fewest_own, seated
 from fewtuners.delays import least_more, surely_whole, whole
 from fewtuners.disks import least_disk, on_disk, round_of, rounds
-from fewtuners.errors import InvalidDelay, InvalidSending
-from fewtuners.listings import Sending
+from fewtuners.errors import InvalidBooks, InvalidDelay, InvalidSending
+from fewtuners.listings import Listing, Sending
+from fewtuners.people import fair_choice, wishers
 from fewtuners.plans import in_the_way, is_plan, lost, own_plan
+from fewtuners.pools import difference, judged, possible_books
+from fewtuners.steady import steady_choice
 from fewtuners.wishing import overlaps, sendings_of, window, wishes
-from tests.samples import document_book, document_listing
+from tests.samples import document_book, document_listing, news_listing
 
 
 class ExamplesTest(unittest.TestCase):
@@ -71,6 +76,42 @@ class ExamplesTest(unittest.TestCase):
             told + [rounds(book, listing, 1), round_of(book, listing, 1, ("quiz", 1))],
             [(["ant"], [], ["bee"]), (["bee"], ["ant"], []), 57, [{"ant": 0}, {"bee": 0}], 1],
         )
+
+    def test_pools(self):
+        book, listing = document_book(), document_listing()
+        other = Book((Rule("quiz", 1, 1, 3), Rule("news", 1, 9, 1, 0, 2)))
+        log = [(listing, 1, ("bee",))]
+        self.assertEqual(
+            [difference(book, other, listing, 1), possible_books(book.rules, 2, log), judged(book.rules, 2, log, 0)],
+            [("ant", "bee"), [(1,)], "never"],
+        )
+
+    def test_changing(self):
+        listing, book = news_listing(), Book((Rule("news", 1, 9, 2), Rule("quiz", 1, 9, 3)))
+        other = listing.only(("a", "b")).with_sending("d", Sending("two", "quiz", 2, 60, 70))
+        self.assertEqual(
+            [changes(listing, other), shifted(book, listing, other, 1)],
+            [[("gone", "c"), ("new", "d")], ([("quiz", 2)], [("news", 1)])],
+        )
+
+    def test_steady(self):
+        listing, book = news_listing(), Book((Rule("news", 1, 9, 2), Rule("quiz", 1, 9, 3)))
+        self.assertEqual(
+            [steady_choice(book, listing, 1, ("a",)), steady_choice(book, listing, 2, ("a",))],
+            [(1, 2, ("a",)), (1, 5, ("a", "b"))],
+        )
+
+    def test_people(self):
+        books = [Book((Rule("news", 1, 9, 1),)), Book((Rule("quiz", 1, 9, 1),))]
+        self.assertEqual(
+            [wishers(books, news_listing(), "b"), fair_choice(books, news_listing(), 1)],
+            [[1], ((1, 1), ("b", "c"))],
+        )
+
+    def test_no_people(self):
+        with self.assertRaises(InvalidBooks) as caught:
+            wishers([], Listing({}), "a")
+        self.assertEqual(vars(caught.exception), {"index": 0})
 
 
 if __name__ == "__main__":

@@ -39,6 +39,22 @@ FUNCTIONS = {
         "rounds": "(book, listing, receivers)",
         "round_of": "(book, listing, receivers, episode)",
     },
+    "fewtuners.pools": {
+        "difference": "(book, other, listing, receivers)",
+        "possible_books": "(pool, most, log)",
+        "judged": "(pool, most, log, index)",
+    },
+    "fewtuners.changing": {
+        "changes": "(one, other)",
+        "shifted": "(book, one, other, receivers)",
+    },
+    "fewtuners.steady": {
+        "steady_choice": "(book, listing, receivers, names)",
+    },
+    "fewtuners.people": {
+        "wishers": "(books, listing, name)",
+        "fair_choice": "(books, listing, receivers)",
+    },
 }
 
 CLASSES = {
