@@ -4,6 +4,8 @@ from fewtuners.errors import InvalidNumber
 
 GREATEST_EPISODE = 999
 MOST_RECEIVERS = 10
+# The end of the latest sending, and the most padding behind it.
+LATEST_MINUTE = 10 ** 6 + 660
 
 
 def is_word(value):

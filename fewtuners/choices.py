@@ -63,7 +63,7 @@ def seated(book, listing, names):
     windows = windows_of(book, listing, names)
     plan = {}
     for name in begin_then_name(windows, windows):
-        plan[name] = least_free(windows, plan, name)
+        plan[name] = least_free(windows, plan, windows[name])
     return ascending(plan)
 
 

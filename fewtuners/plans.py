@@ -10,16 +10,16 @@ def ascending(plan):
     return {name: plan[name] for name in sorted(plan)}
 
 
-def on_receiver(windows, plan, receiver, name):
-    """Return the ascending list of all recordings on a receiver whose windows overlap a sending's."""
+def on_receiver(windows, plan, receiver, span):
+    """Return the ascending list of all recordings on a receiver whose windows overlap a tuple (from, to)."""
     recordings = [other for other in sorted(plan) if plan[other] == receiver]
-    return [other for other in recordings if windows_overlap(windows[other], windows[name])]
+    return [other for other in recordings if windows_overlap(windows[other], span)]
 
 
-def least_free(windows, plan, name):
-    """Return the least receiver that is free in the whole window of a sending, however great it is."""
+def least_free(windows, plan, span):
+    """Return the least receiver that is free in a whole tuple (from, to), however great it is."""
     receiver = 0
-    while on_receiver(windows, plan, receiver, name):
+    while on_receiver(windows, plan, receiver, span):
         receiver = receiver + 1
     return receiver
 
@@ -30,7 +30,7 @@ def taken_up(book, listing, receivers):
     plan = {}
     for episode in wishes(book, listing):
         for name in sendings_of(book, listing, episode):
-            receiver = least_free(windows, plan, name)
+            receiver = least_free(windows, plan, windows[name])
             if receiver < receivers:
                 plan[name] = receiver
                 break
@@ -51,7 +51,7 @@ def no_episode_twice(listing, names):
 def no_receiver_twice(windows, plan):
     """Return whether no two windows on the same receiver overlap."""
     # A window overlaps itself, so each sending finds just itself on its own receiver.
-    return all([on_receiver(windows, plan, plan[name], name) == [name] for name in plan])
+    return all([on_receiver(windows, plan, plan[name], windows[name]) == [name] for name in plan])
 
 
 def is_plan(book, listing, receivers, plan):
@@ -90,5 +90,5 @@ def in_the_way(book, listing, receivers, episode):
     plan = plan_before(book, listing, receivers, episode)
     found = {}
     for name in sendings_of(book, listing, episode):
-        found[name] = [on_receiver(windows, plan, receiver, name) for receiver in range(receivers)]
+        found[name] = [on_receiver(windows, plan, receiver, windows[name]) for receiver in range(receivers)]
     return found

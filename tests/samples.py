@@ -52,6 +52,10 @@ def news_listing():
     })
 
 
+def news_book():
+    return Book((Rule("news", 1, 9, 2), Rule("quiz", 1, 9, 3)))
+
+
 def random_listing(chance, most=10):
     """Return a listing in which many sendings overlap, by a random.Random."""
     sendings = {}

@@ -9,10 +9,11 @@ from fewtuners.errors import InvalidNumber
 from fewtuners.listings import Listing
 from tests import reference
 from tests.samples import (
-    WRONG_RECEIVERS, document_book, document_listing, listing_of, news_listing, random_cases, random_listing, sending,
+    WRONG_RECEIVERS, document_book, document_listing, listing_of, news_book, news_listing, random_cases,
+    random_listing, sending,
 )
 
-BOOK = Book((Rule("news", 1, 9, 2), Rule("quiz", 1, 9, 3)))
+BOOK = news_book()
 
 
 class ChangesTest(unittest.TestCase):

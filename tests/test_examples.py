@@ -7,14 +7,20 @@ from fewtuners.changing import changes, shifted
 from fewtuners.choices import best_choice, busiest, fewest_best, fewest_own, seated
 from fewtuners.delays import least_more, surely_whole, whole
 from fewtuners.disks import least_disk, on_disk, round_of, rounds
-from fewtuners.errors import InvalidBooks, InvalidDelay, InvalidSending
+from fewtuners.errors import (
+    InvalidBooks, InvalidDelay, InvalidOperation, InvalidRows, InvalidSending, InvalidSpan, UnknownChannel,
+)
+from fewtuners.guessing import fewest_listings, next_listing
+from fewtuners.hours import busy_minutes, free_receiver, longest_pause
+from fewtuners.lateness import Lateness
 from fewtuners.listings import Listing, Sending
 from fewtuners.people import fair_choice, wishers
 from fewtuners.plans import in_the_way, is_plan, lost, own_plan
 from fewtuners.pools import difference, judged, possible_books
+from fewtuners.recorders import Recorder
 from fewtuners.steady import steady_choice
 from fewtuners.wishing import overlaps, sendings_of, window, wishes
-from tests.samples import document_book, document_listing, news_listing
+from tests.samples import document_book, document_listing, news_book, news_listing
 
 
 class ExamplesTest(unittest.TestCase):
@@ -87,7 +93,7 @@ class ExamplesTest(unittest.TestCase):
         )
 
     def test_changing(self):
-        listing, book = news_listing(), Book((Rule("news", 1, 9, 2), Rule("quiz", 1, 9, 3)))
+        listing, book = news_listing(), news_book()
         other = listing.only(("a", "b")).with_sending("d", Sending("two", "quiz", 2, 60, 70))
         self.assertEqual(
             [changes(listing, other), shifted(book, listing, other, 1)],
@@ -95,7 +101,7 @@ class ExamplesTest(unittest.TestCase):
         )
 
     def test_steady(self):
-        listing, book = news_listing(), Book((Rule("news", 1, 9, 2), Rule("quiz", 1, 9, 3)))
+        listing, book = news_listing(), news_book()
         self.assertEqual(
             [steady_choice(book, listing, 1, ("a",)), steady_choice(book, listing, 2, ("a",))],
             [(1, 2, ("a",)), (1, 5, ("a", "b"))],
@@ -112,6 +118,52 @@ class ExamplesTest(unittest.TestCase):
         with self.assertRaises(InvalidBooks) as caught:
             wishers([], Listing({}), "a")
         self.assertEqual(vars(caught.exception), {"index": 0})
+
+    def test_lateness(self):
+        watch = Lateness(news_listing(), "one")
+        self.assertEqual(
+            [watch.best_minute("a"), watch.on_air("a", 11), watch.surely_on("b"), watch.delays],
+            [11, 2, (16, 30), (0, 1)],
+        )
+
+    def test_no_such_channel(self):
+        with self.assertRaises(UnknownChannel) as caught:
+            Lateness(Listing({}), "one")
+        self.assertEqual(vars(caught.exception), {})
+
+    def test_guessing(self):
+        pool, listing = (Rule("news", 1, 1, 1), Rule("quiz", 1, 1, 1)), news_listing()
+        rows = [(listing.only(("a",)), 1), (listing.only(("a", "b")), 1)]
+        self.assertEqual([next_listing(pool, 1, [], rows), fewest_listings(pool, 1, [], rows)], [1, 1])
+
+    def test_a_row_without_receivers(self):
+        with self.assertRaises(InvalidRows) as caught:
+            next_listing((), 1, [], [(Listing({}), 0)])
+        self.assertEqual(vars(caught.exception), {"index": 0})
+
+    def test_hours(self):
+        book, listing = news_book(), news_listing()
+        told = [busy_minutes(book, listing, 1), free_receiver(book, listing, 1, 30, 40)]
+        told.append(free_receiver(book, listing, 1, 29, 31))
+        self.assertEqual(told + [longest_pause(book, listing, 1, 0, 60)], [[25], 0, None, (0, 15)])
+
+    def test_a_span_without_minutes(self):
+        with self.assertRaises(InvalidSpan) as caught:
+            free_receiver(Book(()), Listing({}), 1, 5, 5)
+        self.assertEqual(vars(caught.exception), {})
+
+    def test_recorders(self):
+        recorder = Recorder(news_book(), news_listing(), 1)
+        told = recorder.apply_all([("mark", "x"), ("run", 30), ("wish", Rule("news", 1, 1, 5)), ("undo",)])
+        self.assertEqual(
+            [told, recorder.recorded, recorder.plan(), recorder.time, recorder.go("x"), recorder.time],
+            [[False, 1, 1, True], ("b",), {"c": 0}, 30, 2, 0],
+        )
+
+    def test_an_operation_without_its_argument(self):
+        with self.assertRaises(InvalidOperation) as caught:
+            Recorder(Book(()), Listing({}), 1).apply_all([("undo",), ("run",)])
+        self.assertEqual(vars(caught.exception), {"index": 1})
 
 
 if __name__ == "__main__":

@@ -55,6 +55,15 @@ FUNCTIONS = {
         "wishers": "(books, listing, name)",
         "fair_choice": "(books, listing, receivers)",
     },
+    "fewtuners.guessing": {
+        "next_listing": "(pool, most, log, rows)",
+        "fewest_listings": "(pool, most, log, rows)",
+    },
+    "fewtuners.hours": {
+        "busy_minutes": "(book, listing, receivers)",
+        "free_receiver": "(book, listing, receivers, begin, end)",
+        "longest_pause": "(book, listing, receivers, begin, end)",
+    },
 }
 
 CLASSES = {
@@ -90,12 +99,59 @@ CLASSES = {
             "rules": "property", "seen": "property",
         },
     },
+    "fewtuners.lateness": {
+        "Lateness": {
+            "__init__": "(self, listing, channel)",
+            "on_air": "(self, name, minute)",
+            "silent": "(self, name, minute)",
+            "surely_on": "(self, name)",
+            "best_minute": "(self, name)",
+            "delays": "property", "calls": "property",
+        },
+    },
+    "fewtuners.recorders": {
+        "Recorder": {
+            "__init__": "(self, book, listing, receivers)",
+            "add": "(self, name, sending)",
+            "drop": "(self, name)",
+            "wish": "(self, rule)",
+            "unwish": "(self, index)",
+            "watch": "(self, show, episode)",
+            "run": "(self, minute)",
+            "mark": "(self, name)",
+            "go": "(self, name)",
+            "undo": "(self)",
+            "redo": "(self)",
+            "book": "(self)",
+            "listing": "(self)",
+            "plan": "(self)",
+            "apply_all": "(self, operations)",
+            "tried": "(self, operations, keep)",
+            "replay": "(book, listing, receivers, operations)",
+            "time": "property", "recorded": "property", "marks": "property", "history": "property",
+        },
+        "Trial": {
+            "__init__": "(self, recorder)",
+            "__enter__": "(self)",
+            "__exit__": "(self, kind, value, trace)",
+            "hold": "(self)",
+        },
+    },
 }
 
 
 def trees():
     """Return tuples of the name and the parsed text of each file of the package."""
     return [(path.name, ast.parse(path.read_text())) for path in sorted(PACKAGE.glob("*.py"))]
+
+
+def form_of(found, member):
+    """Return "property", or the parameters of a method; without the class, if it is a class method."""
+    if isinstance(vars(found)[member], property):
+        return "property"
+    if isinstance(vars(found)[member], classmethod):
+        return str(inspect.signature(getattr(found, member)))
+    return str(inspect.signature(vars(found)[member]))
 
 
 class InterfaceTest(unittest.TestCase):
@@ -114,9 +170,8 @@ class InterfaceTest(unittest.TestCase):
                 self.assertEqual(found.__module__, module)
                 for member, form in members.items():
                     with self.subTest(module=module, name=name, member=member):
-                        value = vars(found)[member]
-                        told = "property" if isinstance(value, property) else str(inspect.signature(value))
-                        self.assertEqual(told, form)
+                        self.assertIn(member, vars(found))
+                        self.assertEqual(form_of(found, member), form)
 
 
 class SourceTest(unittest.TestCase):

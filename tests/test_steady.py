@@ -8,14 +8,16 @@ from fewtuners.errors import InvalidNumber
 from fewtuners.listings import Listing
 from fewtuners.steady import steady_choice
 from tests import reference
-from tests.samples import WRONG_RECEIVERS, document_book, document_listing, listing_of, news_listing, random_cases
+from tests.samples import (
+    WRONG_RECEIVERS, document_book, document_listing, listing_of, news_book, news_listing, random_cases,
+)
 
 BOOK = Book((Rule("high", 1, 99, 5), Rule("mid", 1, 99, 3), Rule("low", 1, 99, 1)))
 
 
 class SteadyChoiceTest(unittest.TestCase):
     def test_the_document(self):
-        book, listing = Book((Rule("news", 1, 9, 2), Rule("quiz", 1, 9, 3))), news_listing()
+        book, listing = news_book(), news_listing()
         self.assertEqual(steady_choice(book, listing, 1, ("a",)), (1, 2, ("a",)))
         self.assertEqual(steady_choice(book, listing, 2, ("a",)), (1, 5, ("a", "b")))
 
