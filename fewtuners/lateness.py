@@ -11,8 +11,8 @@ def apart(sending, delays, minute):
 
 
 def turning_minutes(sending, delays):
-    """Return the ascending list of the minutes at which a sending begins or ends by some delay."""
-    return sorted([edge + delay for edge in (sending.begin, sending.end) for delay in delays])
+    """Return the list of the minutes at which a sending begins or ends by some delay."""
+    return [edge + delay for edge in (sending.begin, sending.end) for delay in delays]
 
 
 class Lateness:

@@ -5,20 +5,25 @@ import unittest
 from fewtuners.books import Book, Rule
 from fewtuners.changing import changes, shifted
 from fewtuners.choices import best_choice, busiest, fewest_best, fewest_own, seated
+from fewtuners.codec import decode_listing, encode_listing
+from fewtuners.daybooks import Daybook
 from fewtuners.delays import least_more, surely_whole, whole
 from fewtuners.disks import least_disk, on_disk, round_of, rounds
 from fewtuners.errors import (
-    InvalidBooks, InvalidDelay, InvalidOperation, InvalidRows, InvalidSending, InvalidSpan, UnknownChannel,
+    DaybookError, DecodeError, InvalidBooks, InvalidDelay, InvalidOperation, InvalidRow, InvalidRows, InvalidSending,
+    InvalidSpan, UnknownChannel,
 )
 from fewtuners.guessing import fewest_listings, next_listing
 from fewtuners.hours import busy_minutes, free_receiver, longest_pause
 from fewtuners.lateness import Lateness
 from fewtuners.listings import Listing, Sending
+from fewtuners.notation import format_book, parse_book
 from fewtuners.people import fair_choice, wishers
 from fewtuners.plans import in_the_way, is_plan, lost, own_plan
 from fewtuners.pools import difference, judged, possible_books
 from fewtuners.recorders import Recorder
 from fewtuners.steady import steady_choice
+from fewtuners.tables import table
 from fewtuners.wishing import overlaps, sendings_of, window, wishes
 from tests.samples import document_book, document_listing, news_book, news_listing
 
@@ -164,6 +169,46 @@ class ExamplesTest(unittest.TestCase):
         with self.assertRaises(InvalidOperation) as caught:
             Recorder(Book(()), Listing({}), 1).apply_all([("undo",), ("run",)])
         self.assertEqual(vars(caught.exception), {"index": 1})
+
+    def test_tables(self):
+        told = [table(news_book(), news_listing(), 2), table(news_book(), Listing({}), 1)]
+        self.assertEqual(told, ["0: b 15-30\n1: a 10-20", "0: -"])
+
+    def test_notation(self):
+        book = Book((Rule("news", 1, 9, 2, 1),), (("quiz", 3),))
+        text = format_book(book, Listing({"a": Sending("one", "news", 1, 10, 20, 5)}))
+        self.assertEqual(
+            [text, parse_book(text)[0].seen],
+            ["rule news 1 9 2 1 0\nseen quiz 3\nsending a one news 1 10 20 5", (("quiz", 3),)],
+        )
+
+    def test_a_rule_behind_what_was_seen(self):
+        with self.assertRaises(InvalidRow) as caught:
+            parse_book("seen quiz 3\nrule news 1 9 2 1 0")
+        self.assertEqual(vars(caught.exception), {"row": 1, "word": 0})
+
+    def test_codec(self):
+        code = encode_listing(Listing({"a": Sending("b", "c", 1, 0, 300)}))
+        self.assertEqual(
+            [code, decode_listing(code).names],
+            [[102, 1, 1, 0, 1, 1, 1, 2, 0, 1, 0, 0, 0, 0, 1, 44, 0, 84], ("a",)],
+        )
+
+    def test_a_name_of_nine_letters(self):
+        with self.assertRaises(DecodeError) as caught:
+            decode_listing([102, 1, 9])
+        self.assertEqual(vars(caught.exception), {"offset": 2})
+
+    def test_daybooks(self):
+        rows = ["rule news 1 9 2 0 0", "sending a one news 1 10 20 0", "recorder 1", "plan", "add b one news 2 15 30 0",
+                "lost", "run 20", "recorded"]
+        book = Daybook("\n".join(rows))
+        self.assertEqual([book.results, book.recorder().recorded], ["a 0\n1\nnews 2\n1\na", ("a",)])
+
+    def test_an_entry_that_cannot_be(self):
+        with self.assertRaises(DaybookError) as caught:
+            Daybook("recorder 1\ndrop a")
+        self.assertEqual(vars(caught.exception), {"row": 1, "word": 0})
 
 
 if __name__ == "__main__":

@@ -172,7 +172,8 @@ class ReferenceTest(unittest.TestCase):
         for book, listing, receivers in random_cases(150):
             minutes = reference.windows(book, listing)
             plan = own_plan(book, listing, receivers)
-            busy = [[minute for name in plan if plan[name] == at for minute in minutes[name]] for at in range(receivers)]
+            busy = [[minute for name in plan if plan[name] == at for minute in minutes[name]]
+                    for at in range(receivers)]
             self.assertEqual(busy_minutes(book, listing, receivers), [len(row) for row in busy])
             begin = chance.randint(0, 60)
             end = begin + chance.choice((1, 2, 5, 20, 60, 100))

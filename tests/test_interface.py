@@ -64,6 +64,17 @@ FUNCTIONS = {
         "free_receiver": "(book, listing, receivers, begin, end)",
         "longest_pause": "(book, listing, receivers, begin, end)",
     },
+    "fewtuners.tables": {
+        "table": "(book, listing, receivers)",
+    },
+    "fewtuners.notation": {
+        "format_book": "(book, listing)",
+        "parse_book": "(text)",
+    },
+    "fewtuners.codec": {
+        "encode_listing": "(listing)",
+        "decode_listing": "(values)",
+    },
 }
 
 CLASSES = {
@@ -135,6 +146,13 @@ CLASSES = {
             "__enter__": "(self)",
             "__exit__": "(self, kind, value, trace)",
             "hold": "(self)",
+        },
+    },
+    "fewtuners.daybooks": {
+        "Daybook": {
+            "__init__": "(self, text)",
+            "recorder": "(self)",
+            "results": "property",
         },
     },
 }

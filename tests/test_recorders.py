@@ -479,6 +479,13 @@ class ApplyAllTest(RecorderTestCase):
         self.assertEqual(recorder.apply_all([("mark", "x"), ("run", 30), ("undo",), ("redo",), ("go", "x")]), told)
         self.assertEqual(ways_of(recorder), ways_of(other))
 
+    def test_names_that_are_those_of_operations(self):
+        recorder = news_recorder()
+        operations = [("mark", "undo"), ("mark", "redo"), ("add", "undo", FILM), ("add", "redo", FILM), ("go", "redo"),
+                      ("go", "undo"), ("run", 0)]
+        self.assertEqual(recorder.apply_all(operations), [False, False, 2, 2, 2, 2, 0])
+        self.assertEqual(recorder.apply_all([("add", "undo", FILM), ("drop", "undo"), ("mark", "redo")]), [2, 2, True])
+
     def test_invalid_operation(self):
         wrong = [(), ("run",), ("run", 1, 2), ("add", "d"), ("add", "d", FILM, 1), ("drop",), ("wish",), ("unwish",),
                  ("watch", "news"), ("watch", "news", 1, 2), ("mark",), ("go",), ("go", "x", "y"), ("undo", 1),

@@ -1,17 +1,25 @@
-"""Points 2 to 19 together: what they tell of one listing and book fits together."""
+"""All points together: what they tell of one listing and book fits together."""
 
 import unittest
 
 from fewtuners.books import Book
 from fewtuners.changing import changes, shifted
 from fewtuners.choices import best_choice, busiest, fewest_best, fewest_own, seated
+from fewtuners.codec import decode_listing, encode_listing
+from fewtuners.daybooks import Daybook
 from fewtuners.delays import least_more, surely_whole, whole
 from fewtuners.disks import least_disk, on_disk, round_of, rounds
+from fewtuners.guessing import fewest_listings, next_listing
+from fewtuners.hours import busy_minutes, free_receiver, longest_pause
+from fewtuners.lateness import Lateness
 from fewtuners.listings import Listing
+from fewtuners.notation import format_book, parse_book
 from fewtuners.people import fair_choice, wishers
 from fewtuners.plans import in_the_way, is_plan, lost, own_plan
 from fewtuners.pools import difference, judged, possible_books
+from fewtuners.recorders import Recorder, Trial
 from fewtuners.steady import steady_choice
+from fewtuners.tables import table
 from fewtuners.wishing import overlaps, sendings_of, window, wishes
 from tests.samples import document_book, document_listing, random_cases
 
@@ -159,6 +167,99 @@ class TogetherTest(unittest.TestCase):
             for name in listing.names:
                 wished = any(name in sendings_of(book, listing, wish) for wish in wishes(book, listing))
                 self.assertEqual(wishers([book] * 4, listing, name), [0, 1, 2, 3] if wished else [])
+
+
+LATEST = 1000660
+
+
+class RecorderTest(unittest.TestCase):
+    """What a recorder records is what its own plan tells, and so are its hours, texts and codes."""
+
+    def test_one_run_records_the_own_plan(self):
+        for book, listing, receivers in cases():
+            recorder, plan = Recorder(book, listing, receivers), own_plan(book, listing, receivers)
+            self.assertEqual(recorder.plan(), plan)
+            self.assertEqual(recorder.run(LATEST), len(plan))
+            self.assertEqual(sorted(recorder.recorded), list(plan))
+            self.assertEqual(sorted(recorder.book().seen[len(book.seen):]), sorted(episodes(listing, plan)))
+            self.assertEqual(recorder.listing(), Listing({}))
+
+    def test_rounds_are_what_one_run_after_another_records(self):
+        for book, listing, receivers in cases():
+            recorder, found = Recorder(book, listing, receivers), []
+            while recorder.plan():
+                found.append(recorder.plan())
+                recorder.run(LATEST)
+                recorder = Recorder(recorder.book(), listing, receivers)
+            self.assertEqual(found, rounds(book, listing, receivers))
+
+    def test_what_it_runs_is_gone_from_its_listing(self):
+        for book, listing, receivers in cases():
+            recorder = Recorder(book, listing, receivers)
+            with Trial(recorder):
+                for minute in (0, 10, 20, 40, 60, 130):
+                    before = recorder.listing()
+                    recorder.run(minute)
+                    gone = [name for name in before.names if before[name].end <= minute]
+                    self.assertEqual(changes(before, recorder.listing()), [("gone", name) for name in gone])
+            self.assertEqual((recorder.listing(), recorder.history, recorder.redo()), (listing, [], False))
+
+    def test_hours_and_table_tell_the_own_plan(self):
+        for book, listing, receivers in cases():
+            plan = own_plan(book, listing, receivers)
+            minutes = [0] * receivers
+            for receiver, line in enumerate(table(book, listing, receivers).split("\n")):
+                number, _, told = line.partition(": ")
+                self.assertEqual(number, str(receiver))
+                for name, span in [row.split(" ") for row in told.split(", ") if told != "-"]:
+                    self.assertEqual(plan[name], receiver)
+                    begin, end = map(int, span.split("-"))
+                    self.assertEqual(window(book, listing, name), (begin, end))
+                    self.assertNotEqual(free_receiver(book, listing, receivers, begin, end), receiver)
+                    self.assertIsNone(longest_pause(book, listing, receivers, begin, end))
+                    minutes[receiver] += end - begin
+            self.assertEqual(busy_minutes(book, listing, receivers), minutes)
+            pause, many = longest_pause(book, listing, receivers, 0, LATEST)
+            self.assertEqual(free_receiver(book, listing, receivers, pause, pause + many), 0)
+
+    def test_texts_and_codes_keep_the_own_plan(self):
+        for book, listing, receivers in cases():
+            text = format_book(book, listing)
+            parsed, others = parse_book(text)
+            self.assertEqual((parsed, others, decode_listing(encode_listing(listing))), (book, listing, listing))
+            daybook = Daybook((text + "\n" if text else "") + f"recorder {receivers}\nplan\nlost")
+            plan = ", ".join(f"{name} {at}" for name, at in own_plan(book, listing, receivers).items())
+            gone = ", ".join(f"{show} {number}" for show, number in lost(book, listing, receivers))
+            self.assertEqual(daybook.results, f"{plan or '-'}\n{gone or '-'}")
+            self.assertEqual(daybook.recorder().listing(), listing)
+
+    def test_a_lateness_that_is_told_all_minutes_of_one_delay(self):
+        for _, listing, _ in cases():
+            for name in listing.names:
+                for delay in Lateness(listing, listing[name].channel).delays[::7]:
+                    watch = Lateness(listing, listing[name].channel)
+                    sending = listing[name]
+                    for minute in range(sending.begin, sending.end + sending.late + 1):
+                        on = sending.begin + delay <= minute < sending.end + delay
+                        (watch.on_air if on else watch.silent)(name, minute)
+                    self.assertEqual(watch.delays, (delay,))
+                    self.assertIsNone(watch.best_minute(name))
+                    self.assertEqual(watch.surely_on(name), (sending.begin + delay, sending.end + delay))
+
+    def test_rows_that_are_tried_one_after_another(self):
+        for book, listing, receivers in cases(20):
+            rows = [(listing, receivers), (listing.only(listing.names[:2]), 1), (listing.only(listing.names[1:]), 1)]
+            truth, log = Book(book.rules[:2]), []
+            while fewest_listings(book.rules, 2, log, rows) > 0:
+                left = len(possible_books(book.rules, 2, log))
+                row = rows[next_listing(book.rules, 2, log, rows)]
+                log.append((*row, tuple(own_plan(truth, *row))))
+                self.assertLess(len(possible_books(book.rules, 2, log)), left)
+            self.assertLessEqual(len(log), len(rows))
+            for indexes in possible_books(book.rules, 2, log):
+                other = Book(tuple(book.rules[index] for index in indexes))
+                for row in rows:
+                    self.assertEqual(list(own_plan(other, *row)), list(own_plan(truth, *row)))
 
 
 class DocumentTest(unittest.TestCase):
